@@ -55,3 +55,27 @@ def way_minutes(world, a, b):
 
 def open_bases(world):
     return [b for b, place in enumerate(world.places) if place.is_open]
+
+
+def copy_of_place(place):
+    copied = Place(place.is_base, place.waiting)
+    copied.is_open = place.is_open
+    return copied
+
+
+def copy_of_helicopter(heli):
+    copied = Helicopter(heli.place, heli.tank, heli.burn, heli.hover, heli.seats, heli.winch)
+    copied.fuel = heli.fuel
+    copied.busy = heli.busy
+    copied.aboard = heli.aboard
+    return copied
+
+
+def copy_of_world(world):
+    copied = World(world.reserve)
+    copied.minute = world.minute
+    copied.saved = world.saved
+    copied.places = [copy_of_place(place) for place in world.places]
+    copied.ways = dict(world.ways)
+    copied.helis = [copy_of_helicopter(heli) for heli in world.helis]
+    return copied

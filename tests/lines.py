@@ -65,6 +65,62 @@ def hf_lift(h):
     return [14, h]
 
 
+def hf_nearest(p):
+    return [15, p]
+
+
+def hf_must(h, p):
+    return [16, h, p]
+
+
+def hf_range(h):
+    return [17, h]
+
+
+def hf_brings(h, p, t):
+    return [18, h, p, t]
+
+
+def hf_least(h, p, n):
+    return [19, h, p, n]
+
+
+def hf_where(h):
+    return [20, h]
+
+
+def hf_look(h):
+    return [21, h]
+
+
+def hf_see(p):
+    return [22, p]
+
+
+def hf_far(a, b):
+    return [23, a, b]
+
+
+def hf_next():
+    return [24]
+
+
+def hf_sums():
+    return [25]
+
+
+def hf_back():
+    return [26]
+
+
+def hf_again():
+    return [27]
+
+
+def hf_state():
+    return [28]
+
+
 def told(calls):
     """The answers to these calls, a list for each call."""
     given = answers([number for call in calls for number in call])
@@ -84,11 +140,15 @@ def last(*calls):
 
 
 def questions(places, helis):
-    """Everything that these calls can ask of so many places and helicopters."""
-    asked = []
+    """Everything that the calls can ask of so many places and helicopters."""
+    asked = [hf_state(), hf_sums(), hf_next()]
+    for p in range(places):
+        asked += [hf_see(p), hf_nearest(p)]
+        asked += [hf_far(p, q) for q in range(places)]
     for h in range(helis):
-        asked += [hf_stay(h), hf_lift(h)]
-        asked += [hf_may(h, p) for p in range(places)]
+        asked += [hf_where(h), hf_look(h), hf_stay(h), hf_lift(h), hf_range(h)]
+        for p in range(places):
+            asked += [hf_may(h, p), hf_must(h, p), hf_brings(h, p, 500), hf_least(h, p, 50)]
     return asked
 
 
